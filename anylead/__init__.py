@@ -1,0 +1,1 @@
+"""Anylead: games with one endless count, for all counts."""

@@ -11,6 +11,14 @@ def by_place(rules, places):
     return rows
 
 
+def indices_by_place(rules, places):
+    """For each place the ascending list of the indices of its moves, or of its goals."""
+    rows = [[] for place in range(places)]
+    for index, rule in enumerate(rules):
+        rows[rule.place].append(index)
+    return rows
+
+
 def states_behind(moves, n):
     """The states behind those moves of a list that are open at the count n."""
     return [(move.target, n + move.shift) for move in moves if all_hold(move.conditions, n)]

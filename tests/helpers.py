@@ -1,6 +1,7 @@
 """What several test files use: values that are no integers, plain reckonings, and books by chance."""
 
 import functools
+import math
 import random
 
 from anylead.books import Book, Goal, Move
@@ -122,3 +123,87 @@ def form_of(one):
 
 def rng(seed):
     return random.Random(seed)
+
+
+def some_doubled_book(chance, places=5):
+    """A book in which some places are written a second time, perhaps with one thing changed."""
+    book = some_book(chance, places, 10, 3)
+    copies = [chance.randrange(book.places) for _ in range(chance.randint(1, 3))]
+    sides = list(book.sides) + [book.sides[place] for place in copies]
+    moves, goals = list(book.moves), list(book.goals)
+    for number, place in enumerate(copies, start=book.places):
+        same = [place] + [other for other, copied in enumerate(copies, start=book.places) if copied == place]
+        moves += [Move(number, move.conditions, move.shift, chance.choice(same) if move.target == place else move.target)
+                  for move in book.moves if move.place == place]
+        goals += [Goal(number, goal.conditions) for goal in book.goals if goal.place == place]
+    if moves and chance.random() < 0.4:
+        at = chance.randrange(len(moves))
+        moves[at] = Move(moves[at].place, some_conditions(chance), moves[at].shift, moves[at].target)
+    chance.shuffle(moves)
+    return Book(sides, moves, goals)
+
+
+def reach_plainly(*books):
+    """The greatest T of the books, and a common multiple of all their rests."""
+    rows = [row for book in books for rule in book.moves + book.goals for row in rule.conditions]
+    return (max([0] + [abs(row[1]) for row in rows if row[0] != "rest"]),
+            math.lcm(*[row[1] for row in rows if row[0] == "rest"]))
+
+
+def alike_plainly(one, other):
+    """The greatest likeness, struck out round by round over the counts that [29] names."""
+    bound, step = reach_plainly(one, other)
+    counts = range(-bound - step, bound + step + 1)
+    looks = [{(place, n): None if goal_plainly(book, place, n) else
+              [(book.moves[i].shift, book.moves[i].target) for i in open_plainly(book, place, n)]
+              for place in range(book.places) for n in counts} for book in (one, other)]
+    pairs = {(p, q) for p in range(one.places) for q in range(other.places) if one.sides[p] == other.sides[q]}
+
+    def keeps(pair):
+        for n in counts:
+            mine, yours = looks[0][pair[0], n], looks[1][pair[1], n]
+            if (mine is None) != (yours is None):
+                return False
+            if mine is None:
+                continue
+            if not all(any(shift == by and (p, q) in pairs for by, q in yours) for shift, p in mine):
+                return False
+            if not all(any(shift == by and (p, q) in pairs for by, p in mine) for shift, q in yours):
+                return False
+        return True
+
+    while True:
+        kept = {pair for pair in pairs if keeps(pair)}
+        if kept == pairs:
+            return pairs
+        pairs = kept
+
+
+def next_plainly(book, player, place, n):
+    """[36]: the state behind the player's answer, or the word for how the play has ended."""
+    choices = open_plainly(book, place, n)
+    if goal_plainly(book, place, n) or (not choices and book.sides[place] == 1):
+        return "first"
+    if not choices:
+        return "second"
+    index = next((index for at, counts, index in player if at == place and n in counts and index in choices), choices[0])
+    return book.moves[index].target, n + book.moves[index].shift
+
+
+def walk_plainly(book, player, place, n, most):
+    """How the course ends, None if it hasn't behind so many moves; and the list of its states till then."""
+    states = [(place, n)]
+    while len(states) <= most:
+        behind = next_plainly(book, player, *states[-1])
+        if isinstance(behind, str):
+            return behind, states
+        states.append(behind)
+    return None, states
+
+
+def some_player(chance, book, many):
+    rows = []
+    for _ in range(many if book.moves else 0):
+        index = chance.randrange(len(book.moves))
+        rows.append((book.moves[index].place, some_rounds(chance), index))
+    return rows

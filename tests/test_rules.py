@@ -27,6 +27,10 @@ INTERFACE = {
     "roundsums": "sums shifts",
     "roundtexts": "rounds_text read_rounds",
     "bounded": "least_turns table_of Window sandwich",
+    "boards": "Spot Board board_of",
+    "alike": "likeness is_alike classes least_book Difference differences shows_unlike",
+    "plays": "Play is_play play_text read_play",
+    "players": "open_counts goal_counts answer next_state Outcome course state_behind",
 }
 METHODS = {
     ("rounds", "Rounds"): "__init__ __eq__ __contains__ __bool__ __and__ __or__ __xor__ __sub__ __invert__ __neg__ __str__ "
@@ -35,6 +39,11 @@ METHODS = {
     ("books", "Move"): "__init__ __eq__",
     ("books", "Goal"): "__init__ __eq__",
     ("books", "Book"): "__init__ __eq__",
+    ("boards", "Spot"): "__init__ __eq__",
+    ("boards", "Board"): "__init__ __eq__ spot at home",
+    ("alike", "Difference"): "__init__ __eq__",
+    ("plays", "Play"): "__init__ __eq__ go back since",
+    ("players", "Outcome"): "__init__ __eq__",
 }
 
 

@@ -1,9 +1,11 @@
 """What several test files use: values that are no integers, plain reckonings, and books by chance."""
 
 import functools
+import itertools
 import math
 import random
 
+from anylead.boards import board_of
 from anylead.books import Book, Goal, Move
 from anylead.rounds import Rounds
 
@@ -207,3 +209,50 @@ def some_player(chance, book, many):
         index = chance.randrange(len(book.moves))
         rows.append((book.moves[index].place, some_rounds(chance), index))
     return rows
+
+
+def step_plainly(row, down, level, up):
+    """[39]: the step, as a frozenset."""
+    found = set()
+    for place, spot in enumerate(row):
+        good = [q in aim for rows, aim in ((spot.down, down), (spot.level, level), (spot.up, up)) for q in rows]
+        if spot.is_goal or (any(good) if spot.side == 0 else all(good)):
+            found.add(place)
+    return frozenset(found)
+
+
+def rounds_plainly(row):
+    """[40]: the down targets, and the list of the tables G_0, G_1, .. for ALL sets of them."""
+    targets = frozenset(q for spot in row for q in spot.down)
+    sets = [frozenset(some) for many in range(len(targets) + 1) for some in itertools.combinations(sorted(targets), many)]
+    rounds = [{some: frozenset() for some in sets}]
+    while True:
+        last = rounds[-1]
+        grown = {some: step_plainly(row, some, last[some], last[last[some] & targets]) for some in sets}
+        if grown == last:
+            return targets, rounds
+        rounds.append(grown)
+
+
+def some_small_books(seed, many, most_places=16, most_targets=5):
+    """Books with so few board places and targets in both zones, with their boards."""
+    chance = rng(seed)
+    found = []
+    while len(found) < many:
+        book = some_book(chance, 3, 10, 2)
+        board = board_of(book)
+        if board.places <= most_places and max(len(board.down_targets), len(board.up_targets)) <= most_targets:
+            found.append((book, board))
+    return found
+
+
+def taking_book(takes):
+    """Both sides take in turn one of some numbers from the count; who can't has lost."""
+    return Book((0, 1), [Move(side, (("least", many),), -many, 1 - side) for side in (0, 1) for many in takes], ())
+
+
+def rings_book():
+    """FIRST goes down round three rings of 2, 3 and 5 places; goals are at 0: above all comes round by 30 levels."""
+    rings = [[0, 1], [2, 3, 4], [5, 6, 7, 8, 9]]
+    moves = [Move(place, (), -1, ring[at - 1]) for ring in rings for at, place in enumerate(ring)]
+    return Book((0,) * 10, moves, [Goal(place, (("is", 0),)) for place in (0, 2, 5)])

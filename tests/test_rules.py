@@ -31,6 +31,9 @@ INTERFACE = {
     "alike": "likeness is_alike classes least_book Difference differences shows_unlike",
     "plays": "Play is_play play_text read_play",
     "players": "open_counts goal_counts answer next_state Outcome course state_behind",
+    "tables": "step forced flipped ranks_of",
+    "winners": "Winners winners winners_at wins",
+    "papers": "Ranks Paper paper is_paper told_winners is_outside is_closed_step",
 }
 METHODS = {
     ("rounds", "Rounds"): "__init__ __eq__ __contains__ __bool__ __and__ __or__ __xor__ __sub__ __invert__ __neg__ __str__ "
@@ -44,6 +47,9 @@ METHODS = {
     ("alike", "Difference"): "__init__ __eq__",
     ("plays", "Play"): "__init__ __eq__ go back since",
     ("players", "Outcome"): "__init__ __eq__",
+    ("winners", "Winners"): "__init__ __eq__ on wins at",
+    ("papers", "Ranks"): "__init__",
+    ("papers", "Paper"): "__init__",
 }
 
 

@@ -72,10 +72,11 @@ class Guide:
 class Track:
     """A course as far as it has been followed.
 
-    pieces has rows (start, states, times, drift): from the move number start on the states come, so many
-    times, each time with their counts raised by the drift. Behind the pieces states come once; they
-    begin behind so many moves as start tells, and lead to here. kind tells how the course has ended. If
-    it never ends, ring tells the row (start, period, drift) by which it comes again from some move on."""
+    pieces has rows (start, states, drift): from the move number start on the states come, again and again
+    till the next piece begins, each time with their counts raised by the drift. Behind the pieces states
+    come once; they begin behind so many moves as start tells, and lead to here. kind tells how the course
+    has ended. If it never ends, ring tells the row (start, period, drift) by which it comes again from
+    some move on."""
 
     def __init__(self, place, n):
         self.pieces = []
@@ -164,8 +165,8 @@ def _repeat(track, guide, zone, begin):
     # So many rounds begin at states[0] and lie in the zone whole; begun are those that have been made.
     times = gap // abs(drift) + 1
     if times > begun // drift:
-        track.pieces.append((track.start, ahead, 1, 0))
-        track.pieces.append((begin, states, times, drift))
+        track.pieces.append((track.start, ahead, 0))
+        track.pieces.append((begin, states, drift))
         track.start = begin + times * len(states)
         track.states = []
         track.here = (place, states[0][1] + times * drift)
@@ -191,7 +192,7 @@ def state_behind_moves(track, moves):
         return track.here if moves == made(track) else None
     if moves >= track.start:
         return track.states[moves - track.start]
-    start, states, _, drift = _piece_at(track.pieces, moves)
+    start, states, drift = _piece_at(track.pieces, moves)
     rounds, rest = divmod(moves - start, len(states))
     place, n = states[rest]
     return (place, n + rounds * drift)

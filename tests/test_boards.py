@@ -193,6 +193,11 @@ class Equal(unittest.TestCase):
         for at, value in ((1, 5), (2, -2), (3, 1), (4, board.below), (5, board.above), (6, board.middle[:1])):
             self.assertFalse(board == Board(*parts[:at], value, *parts[at + 1:]))
             self.assertTrue(board != Board(*parts[:at], value, *parts[at + 1:]))
+        # The same targets, but a goal more in one of the rows.
+        for at in (4, 5):
+            row = list(parts[at])
+            row[0] = Spot(row[0].side, True, *parts_of(row[0])[2:])
+            self.assertFalse(board == Board(*parts[:at], row, *parts[at + 1:]))
         for other in (None, 0, parts, EXAMPLE, board.above):
             self.assertFalse(board == other)
 

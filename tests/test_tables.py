@@ -14,10 +14,10 @@ def spot(side, level=(), down=(), up=(), is_goal=False):
     return Spot(side, is_goal, level, down, up, ())
 
 
-def passed(chance, places):
-    """A set of places passed in some way: in any order, with doubles, with what is no board place."""
+def passed(chance, places, many):
+    """A set of places passed in some way: in any order, with doubles, with what is none of so many board places."""
     row = list(places) + [chance.choice(list(places)) for _ in range(chance.randint(0, 2)) if places]
-    row += [chance.choice([FAR, 400, 10 ** 60]) for _ in range(chance.randint(0, 1))]
+    row += [chance.choice([many, many, many + 1, 2 * many, FAR]) for _ in range(chance.randint(0, 2))]
     chance.shuffle(row)
     return chance.choice([tuple, list])(row)
 
@@ -44,7 +44,7 @@ class Steps(unittest.TestCase):
             for row in (board.above, board.below) + board.middle + (flipped(board.above),):
                 for _ in range(6):
                     sets = [tuple(chance.sample(range(board.places), chance.randint(0, board.places))) for _ in range(3)]
-                    told = step(row, *[passed(chance, places) for places in sets])
+                    told = step(row, *[passed(chance, places, board.places) for places in sets])
                     self.assertEqual(told, tuple(sorted(step_plainly(row, *sets))))
                     self.assertTrue(type(told) is tuple and all(type(place) is int for place in told))
 
@@ -84,9 +84,9 @@ class Forced(unittest.TestCase):
                 targets, rounds = rounds_plainly(row)
                 most = max(most, len(rounds))
                 for places in rounds[0]:
-                    told = forced(row, passed(chance, sorted(places)))
+                    told = forced(row, passed(chance, sorted(places), board.places))
                     self.assertEqual(told, tuple(sorted(rounds[-1][places])))
-                    ranks = ranks_of(row, passed(chance, sorted(places)))
+                    ranks = ranks_of(row, passed(chance, sorted(places), board.places))
                     wanted = tuple(next((k for k, table in enumerate(rounds) if p in table[places]), None)
                                    for p in range(board.places))
                     self.assertEqual(ranks, wanted)

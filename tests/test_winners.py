@@ -211,6 +211,20 @@ class ByHand(unittest.TestCase):
                 self.assertIs(one.wins(place, n), place in one.on(n))
                 self.assertIs(n in rounds, place in one.on(n))
 
+    def test_at_and_wins_with_turns(self):
+        chance = rng(439)
+        for width, book in ((1, Book((0, 1), (), ())), (3, Book((0, 1), (Move(0, (), 3, 1),), ()))):
+            board = board_of(book)
+            for _ in range(60):
+                rows = [[sorted(chance.sample(range(2 * width), chance.randint(0, 2))) for _ in range(many)]
+                        for many in (1, chance.randint(1, 6), chance.randint(1, 6))]
+                one = Winners(board, rows[0], rows[1], chance.randrange(len(rows[1])), rows[2], chance.randrange(len(rows[2])))
+                for place in (0, 1):
+                    rounds = one.at(place)
+                    for n in list(range(-40, 41)) + [FAR, -FAR]:
+                        self.assertIs(n in rounds, place * width + n % width in one.on(n // width))
+                        self.assertIs(one.wins(place, n), n in rounds)
+
     def test_equal(self):
         book = rings_book()
         one = winners(book)

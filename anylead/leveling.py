@@ -16,8 +16,8 @@ class Solved:
         self.below = Table(flipped(board.below))
         self.middle_rounds = _middle_rounds(board, self.above, self.below)
         self.middle = self.middle_rounds[-1]
-        self.above_sets, self.above_turn = _outward(self.above, self.middle[-1])
-        self.below_sets, self.below_turn = _outward(self.below, self.middle[0])
+        self.above_sets, self.above_turn = outward(self.above, self.middle[-1])
+        self.below_sets, self.below_turn = outward(self.below, self.middle[0])
 
 
 def _middle_rounds(board, above, below):
@@ -32,8 +32,10 @@ def _middle_rounds(board, above, below):
         rounds.append(grown)
 
 
-def _outward(table, places):
-    """The sets of the levels outside of one with this set, till one comes again, and the index of that one."""
+def outward(table, places):
+    """The sets of the levels outside of one with this set, till one comes again, and the index of that one.
+
+    table.forced tells the set of the level outside of one with a set."""
     indices = {}
     places = table.forced(places)
     while places not in indices:

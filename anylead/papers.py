@@ -101,13 +101,14 @@ def _are_numbers(value, many):
     return all([number is None or (is_whole(number) and number >= 0) for number in value])
 
 
-def _is_less(number, limit):
+def is_less(number, limit):
+    """Whether there is a number, and it is less than the limit."""
     return number is not None and number < limit
 
 
-def _below(numbers, targets, limit):
+def targets_below(numbers, targets, limit):
     """Those of the targets whose numbers are less than the limit."""
-    return tuple([place for place in targets if _is_less(numbers[place], limit)])
+    return tuple([place for place in targets if is_less(numbers[place], limit)])
 
 
 def _are_all_held(row, targets, known):
@@ -123,10 +124,10 @@ def _is_held(spot, number, places, numbers, targets, known):
     """Whether a place with this number is held in the Ranks for the places, with the numbers."""
     if spot.is_goal:
         return True
-    goods = [target in places for target in spot.down] + [_is_less(numbers[target], number) for target in spot.level]
+    goods = [target in places for target in spot.down] + [is_less(numbers[target], number) for target in spot.level]
     if spot.up:
-        behind = known.get(_below(numbers, targets, number))
-        goods.extend([behind is not None and _is_less(behind[target], number) for target in spot.up])
+        behind = known.get(targets_below(numbers, targets, number))
+        goods.extend([behind is not None and is_less(behind[target], number) for target in spot.up])
     return _is_good(spot, goods)
 
 
@@ -176,15 +177,15 @@ def _is_middle_held(board, spot, number, levels, at, above, below):
     if spot.is_goal:
         return True
     numbers = levels[at]
-    goods = [_is_less(numbers[target], number) for target in spot.level]
+    goods = [is_less(numbers[target], number) for target in spot.level]
     if at + 1 < len(levels):
-        goods.extend([_is_less(levels[at + 1][target], number) for target in spot.up])
+        goods.extend([is_less(levels[at + 1][target], number) for target in spot.up])
     elif spot.up:
-        goods.extend(_are_numbered(above.get(_below(numbers, board.down_targets, number)), spot.up))
+        goods.extend(_are_numbered(above.get(targets_below(numbers, board.down_targets, number)), spot.up))
     if at > 0:
-        goods.extend([_is_less(levels[at - 1][target], number) for target in spot.down])
+        goods.extend([is_less(levels[at - 1][target], number) for target in spot.down])
     elif spot.down:
-        goods.extend(_are_numbered(below.get(_below(numbers, board.up_targets, number)), spot.down))
+        goods.extend(_are_numbered(below.get(targets_below(numbers, board.up_targets, number)), spot.down))
     return _is_good(spot, goods)
 
 

@@ -4,9 +4,7 @@ from anylead.books import all_hold, open_moves
 from anylead.checks import is_index, is_row, is_whole, need_state
 from anylead.errors import BadNumber, BadRow, BadText, NoMove
 from anylead.solving import by_place, some_holds
-
-DIGITS = "0123456789"
-MOST_DIGITS = 60
+from anylead.words import number_of
 
 
 class Play:
@@ -97,15 +95,15 @@ def read_play(book, text):
     if not isinstance(text, str):
         raise BadText(0, 0)
     words = text.split(" ")
-    place = _number(words[0])
+    place = number_of(words[0])
     if not is_index(place, book.places):
         raise BadText(1, 1)
     if len(words) < 2 or words[1] != "at":
         raise BadText(1, _column(words, 1))
-    n = _number(words[2][:-1]) if len(words) > 2 and words[2][-1:] == ":" else None
+    n = number_of(words[2][:-1]) if len(words) > 2 and words[2][-1:] == ":" else None
     if n is None:
         raise BadText(1, _column(words, 2))
-    moves = [_number(word) for word in words[3:]]
+    moves = [number_of(word) for word in words[3:]]
     states = _states(book, place, n, moves)
     if len(states) <= len(moves):
         raise BadText(1, _column(words, len(states) + 2))
@@ -116,13 +114,3 @@ def _column(words, number):
     """One more than the number of characters ahead of the word; behind the text, if it has no such word."""
     column = sum([len(word) + 1 for word in words[:number]]) + 1
     return column if number < len(words) else column - 1
-
-
-def _number(word):
-    """The integer that a word tells just as Python writes it, with at most 60 digits; None if it tells none."""
-    digits = word[1:] if word[:1] == "-" else word
-    if len(digits) == 0 or len(digits) > MOST_DIGITS or not all([digit in DIGITS for digit in digits]):
-        return None
-    if digits[0] == "0" and word != "0":
-        return None
-    return int(word)

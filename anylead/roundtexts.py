@@ -4,8 +4,7 @@ from math import lcm
 
 from anylead.errors import BadText, TooMany
 from anylead.rounds import LIMIT, Rounds, all_counts, none
-
-DIGITS = "0123456789"
+from anylead.words import DIGITS
 
 
 def rounds_text(one):

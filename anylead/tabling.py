@@ -66,7 +66,7 @@ class Table:
     def __init__(self, row):
         self.lines = Lines(row)
         self.rounds = {}
-        self.settled = {}
+        self.final = {}
 
     def cut(self, places):
         """Those of a set to which some down move leads."""
@@ -79,7 +79,7 @@ class Table:
     def rounds_of(self, places):
         """The list of G_0, G_1, .. of a set, till nothing is added any more."""
         first = self.cut(places)
-        while first not in self.settled:
+        while first not in self.final:
             self._settle(first)
         return self.rounds[first]
 
@@ -96,14 +96,14 @@ class Table:
         # none ever will.
         if all([self._at(each, number + 1) == self._at(each, number) for each in chain]):
             for each in chain:
-                self.settled[each] = True
+                self.final[each] = True
 
     def _at(self, places, number):
         rounds = self.rounds[places]
         return rounds[min(number, len(rounds) - 1)]
 
     def _is_reached(self, places, number):
-        return places in self.settled or len(self.rounds.setdefault(places, [0])) > number
+        return places in self.final or len(self.rounds.setdefault(places, [0])) > number
 
     def _reach(self, places, number):
         """Reckons the rounds of a set up to this number."""

@@ -30,8 +30,8 @@ def told_at(board, told, level):
         return told.middle[level - board.first]
     sets, turn, index = (told.above, told.above_turn, level - board.last - 1) if level > board.last else (
         told.below, told.below_turn, board.first - level - 1)
-    while index >= len(sets):
-        index -= len(sets) - turn
+    if index >= len(sets):
+        index = turn + (index - turn) % (len(sets) - turn)
     return sets[index]
 
 

@@ -16,7 +16,7 @@ BARRED = set("""type typing typing_extensions enum Enum IntEnum StrEnum Flag Int
 NamedTuple TypedDict TYPE_CHECKING abstractmethod register mro elements open input law eval exec compile globals locals vars
 getattr setattr delattr super float chr""".split())
 # Most of these are allowed in some form; the package does without them.
-KINDS = (ast.Global, ast.AsyncFunctionDef, ast.Lambda, ast.Try, ast.Yield, ast.YieldFrom, ast.GeneratorExp, ast.AnnAssign,
+KINDS = (ast.Global, ast.AsyncFunctionDef, ast.Lambda, ast.Yield, ast.YieldFrom, ast.GeneratorExp, ast.AnnAssign,
          ast.Import, ast.With, ast.Delete, ast.NamedExpr, ast.Match)
 INTERFACE = {
     "errors": "LeadError BadNumber BadBook BadPlace BadRow BadText BadName NoName TakenName NoMove Unlike TooMany NotKept "
@@ -34,6 +34,14 @@ INTERFACE = {
     "tables": "step forced flipped ranks_of",
     "winners": "Winners winners winners_at wins",
     "papers": "Ranks Paper paper is_paper told_winners is_outside is_closed_step",
+    "plans": "Standing Straight Lead Watch plan played",
+    "again": "again_forced again_winners again_at",
+    "questions": "good_at slips_at lone_at never_good Lasting lasting shares apart behind handicap squeezed changed needless",
+    "games": "game_of Game game_text standings place_of standing_at state_text state_of",
+    "meaning": "moves_from is_goal_at counted instances",
+    "gamebooks": "book_of never_open renamed",
+    "desk": "Desk",
+    "journal": "mended replayed sum_of",
 }
 METHODS = {
     ("rounds", "Rounds"): "__init__ __eq__ __contains__ __bool__ __and__ __or__ __xor__ __sub__ __invert__ __neg__ __str__ "
@@ -50,6 +58,26 @@ METHODS = {
     ("winners", "Winners"): "__init__ __eq__ on wins at",
     ("papers", "Ranks"): "__init__",
     ("papers", "Paper"): "__init__",
+    ("plans", "Standing"): "__init__ __eq__",
+    ("plans", "Straight"): "__init__",
+    ("plans", "Lead"): "__init__ begin answer told left enough straight",
+    ("plans", "Watch"): "__init__ begin answer told player",
+    ("questions", "Lasting"): "__init__",
+    ("games", "Game"): "__init__ __eq__",
+    ("desk", "Desk"): "__init__ put edit rename drop keep release undo redo attempt trial names promises text game winners asked broken "
+                      "journal settled",
+}
+# The arguments of each function and class of the interface, in their order.
+ARGUMENTS = {
+    "plans": {"Standing": 3, "Straight": 6, "Lead": 2, "Watch": 2, "plan": 2, "played": 4},
+    "again": {"again_forced": 3, "again_winners": 1, "again_at": 2},
+    "questions": {"good_at": 2, "slips_at": 2, "lone_at": 2, "never_good": 1, "Lasting": 2, "lasting": 2, "shares": 2, "apart": 4,
+                  "behind": 4, "handicap": 4, "squeezed": 3, "changed": 2, "needless": 1},
+    "games": {"game_of": 1, "Game": 3, "game_text": 1, "standings": 1, "place_of": 2, "standing_at": 2, "state_text": 3, "state_of": 2},
+    "meaning": {"moves_from": 3, "is_goal_at": 3, "counted": 1, "instances": 1},
+    "gamebooks": {"book_of": 1, "never_open": 1, "renamed": 4},
+    "desk": {"Desk": 0},
+    "journal": {"mended": 1, "replayed": 1, "sum_of": 2},
 }
 
 
@@ -177,6 +205,31 @@ class Rules(unittest.TestCase):
             self.assertLessEqual(set(words.split()), defined, module)
             for word in words.split():
                 self.assertTrue(hasattr(importlib.import_module("anylead." + module), word))
+
+    def test_arguments(self):
+        import inspect
+        for module, words in ARGUMENTS.items():
+            for word, many in words.items():
+                told = inspect.signature(getattr(importlib.import_module("anylead." + module), word))
+                self.assertEqual(len(told.parameters), many, word)
+
+    def test_errors_that_are_caught(self):
+        for name, node in self.nodes():
+            if isinstance(node, ast.ExceptHandler):
+                self.assertIn(node.type.id, INTERFACE["errors"].split(), name)
+            if isinstance(node, ast.Try):
+                # A finally only gives back what stood there.
+                for each in node.finalbody:
+                    each = each.body[0] if isinstance(each, ast.If) else each
+                    self.assertEqual(ast.unparse(each), "self.stages = stages", name)
+
+    def test_no_attribute_has_the_name_of_a_new_method(self):
+        stored = {node.attr for _, node in self.nodes() if isinstance(node, ast.Attribute) and isinstance(node.ctx, ast.Store)}
+        defined = {each.name for _, node in self.nodes() if isinstance(node, ast.ClassDef) for each in node.body
+                   if isinstance(each, ast.FunctionDef)}
+        self.assertLessEqual(stored & defined, {"many"})
+        self.assertFalse(stored & {"items", "keys", "values", "pop", "update", "append", "clear", "extend", "insert", "remove", "reverse",
+                                   "setdefault", "sort", "args", "encode", "decode", "hex", "fromhex", "format"})
 
     def test_methods_are_defined_in_the_class_itself(self):
         for (module, kind), words in METHODS.items():

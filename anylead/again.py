@@ -6,7 +6,7 @@ from anylead.errors import Unlike
 from anylead.looping import Again, Solved
 from anylead.tables import places_bits
 from anylead.tabling import places_of
-from anylead.winners import Winners
+from anylead.winners import solved_winners
 
 
 def again_forced(row, unseen, seen):
@@ -21,10 +21,7 @@ def again_forced(row, unseen, seen):
 def again_winners(book):
     """The Winners whose sets are those from which FIRST can force the wish again."""
     board = board_of(book)
-    solved = Solved(board)
-    rows = [[places_of(bits, board.places) for bits in sets]
-            for sets in (solved.middle, solved.above_sets, solved.below_sets)]
-    return Winners(board, rows[0], rows[1], solved.above_turn, rows[2], solved.below_turn)
+    return solved_winners(board, Solved(board))
 
 
 def again_at(book, place):

@@ -1,7 +1,7 @@
 """Plans that keep their side's wish against every play."""
 
 from anylead.boards import board_of, row_at
-from anylead.checks import is_index, is_row, is_whole, need_place, need_state, tupled
+from anylead.checks import is_index, is_row, is_whole, need_place, tupled
 from anylead.errors import BadNumber, BadRow, NoMove, Unlike
 from anylead.leading import Middle, Way, Zone, has_ended
 from anylead.leveling import set_at
@@ -128,8 +128,7 @@ class Watch:
 
 
 def _need_wish(lead, sets, place, n):
-    """Unlike("wish") unless the sets tell the state as one of the plan's side."""
-    need_state(lead.book, place, n)
+    """Unlike("wish") unless the sets tell the state, which must be one of the book, as one of the plan's side."""
     number, level = lead.board.at(place, n)
     if (number in set_at(lead.board, sets, level)) != (lead.side == 0):
         raise Unlike("wish")

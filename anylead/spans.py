@@ -29,7 +29,7 @@ class Span:
     def spots(self, place):
         """For each level a list with a pair (number, spot) for each board place of the place."""
         width = self.board.width
-        numbers = range(place * width, place * width + width)
+        numbers = list(range(place * width, place * width + width))
         return [[(number, row_at(self.board, level)[number]) for number in numbers] for level in self.levels]
 
     def gathered(self, rows):

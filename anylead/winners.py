@@ -66,7 +66,11 @@ def _truths(one, place, low, high):
 def winners(book):
     """The Winners of a book."""
     board = board_of(book)
-    solved = Solved(board)
+    return solved_winners(board, Solved(board))
+
+
+def solved_winners(board, solved):
+    """The Winners with the sets that have been found for the levels of a board."""
     rows = [[places_of(bits, board.places) for bits in sets]
             for sets in (solved.middle, solved.above_sets, solved.below_sets)]
     return Winners(board, rows[0], rows[1], solved.above_turn, rows[2], solved.below_turn)

@@ -8,6 +8,7 @@ import random
 from anylead.boards import board_of
 from anylead.books import Book, Goal, Move
 from anylead.rounds import Rounds
+from anylead.winners import winners
 
 FAR = 10 ** 59 + 7
 NO_INTEGERS = (True, False, None, "1", 1.0, (1,), [1], {}, b"1")
@@ -243,6 +244,31 @@ def some_small_books(seed, many, most_places=16, most_targets=5):
         board = board_of(book)
         if board.places <= most_places and max(len(board.down_targets), len(board.up_targets)) <= most_targets:
             found.append((book, board))
+    return found
+
+
+def deep_book(chance):
+    """A book of which far out there is much to do, up and down, before the middle is come to."""
+    places = chance.randint(3, 6)
+    words = [()] * 4 + [(("least", 1),), (("most", -1),), (("not", 0),)]
+    moves = [Move(chance.randrange(places), chance.choice(words), chance.choice([-1, -1, 0, 1, 1]), chance.randrange(places))
+             for _ in range(chance.randint(places, 2 * places + 2))]
+    goals = [Goal(chance.randrange(places), (("is", chance.choice([0, 1, -1])),)) for _ in range(chance.randint(1, 2))]
+    return Book([0 if chance.random() < 0.65 else 1 for _ in range(places)], moves, goals)
+
+
+def late_books(seed, many):
+    """Books whose told sets come round only from some level on, some of them by more than one level."""
+    chance = rng(seed)
+    found, turning = [], 0
+    while len(found) < many or turning < many // 4:
+        book = deep_book(chance)
+        one = winners(book)
+        turns = one.above_turn + one.below_turn
+        periods = len(one.above) - one.above_turn > 1 or len(one.below) - one.below_turn > 1
+        if turns > 0 and (len(found) < many or periods):
+            found.append(book)
+            turning += periods
     return found
 
 

@@ -161,7 +161,18 @@ class Never(unittest.TestCase):
                               (("when count least 3", "then count more 5", "when count most 8"), False),
                               (("when count rest 2 0", "then count more p", "when count rest 2 1"), False),
                               (("when count rest 2 0", "then count more 1", "when count rest 2 0"), True),
-                              (("when count least p", "when count most 2", "when p above 2"), True)):
+                              (("when count least p", "when count most 2", "when p above 2"), True),
+                              (("when count least 5", "when count least 3", "when count most 4"), True),
+                              (("when count least 3", "when count least 5", "when count most 4"), True),
+                              (("when count most 4", "when count most 6", "when count least 5"), True),
+                              (("when count most 6", "when count most 4", "when count least 4"), False),
+                              (("when count rest 2 0", "when count least 3", "when count rest 2 1", "when count most 9", "when count rest 3 1"), True),
+                              (("when count rest 3 0", "when count least 5"), False), (("when count rest 3 0", "when count most 5"), False),
+                              (("when count rest 3 1", "when count most 5", "when count least 5"), True),
+                              (("when count rest 3 0", "when count least 4", "when count most 5"), True),
+                              (("when count rest 3 0", "when count least 4", "when count most 6", "when count not 6"), True),
+                              (("when count most 5", "when count not 5", "when count not 4", "when count least 3"), False),
+                              (("when count rest 5 2", "when count is 7"), False), (("when count rest 5 2", "when count is 8"), True)):
             self.assertEqual(self.told(*lines), wanted, lines)
 
     def test_rules_without_instances(self):

@@ -107,9 +107,9 @@ class Texts(unittest.TestCase):
     def test_equal_games(self):
         game = game_of(FULL)
         self.assertTrue(game == game_of(FULL))
-        for old, new in (("game heap", "game heaps"), ("red blue", "red green"), ("-1 to 2", "-1 to 3"), ("then again\n", ""),
+        for old, new in (("game heap", "game heaps"), ("red blue", "red green"), ("-1 to 2", "-1 to 3"), ("then size more 1", "then size more 2"), ("then again\n", ""),
                          ("rest 3 w", "rest 4 w"), ("first one", "first ones")):
-            self.assertFalse(game == game_of(FULL.replace("use both 3 red blue", "use both 3 red red").replace(old, new)))
+            self.assertFalse(game == game_of(FULL.replace(old, new)))
         for value in (None, 5, "game heap", FULL, (game.name, game.pieces, game.statements)):
             self.assertFalse(game == value)
         self.assertFalse(game_of("game a\nfirst x\nend") == game_of("game a\nsecond x\nend"))

@@ -300,6 +300,10 @@ class Sizes(unittest.TestCase):
             else:
                 self.assertEqual(instances(game)[0][3], (("then", "again"),) * 400)
 
+    def test_parts_of_just_400_lines(self):
+        game = game_of("game a\npart twenty\n" + "then again\n" * 20 + "end\npart all\n" + "use twenty\n" * 20 + "end\nfirst x\nuse all\nend\n")
+        self.assertEqual(instances(game), (("first", "x", (), (("then", "again"),) * 400),))
+
     def test_errors_in_their_order(self):
         great = game_of("game a\npiece p from 1 to 12\npiece q is b c\n" + "for v from 1 to 30\ngoal\n" + "then again\n" * 20 + "end\nend\n" * 1
                         + "for v from 0 to 30\ngoal\nend\nend\n")

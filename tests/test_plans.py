@@ -7,15 +7,15 @@ import unittest
 from anylead.boards import board_of
 from anylead.books import Book, Goal, Move
 from anylead.errors import BadNumber, BadPlace, BadRow, NoMove, TooMany, Unlike
-from anylead.papers import Ranks, is_outside, paper, told_winners
+from anylead.papers import Ranks, is_outside, is_paper, paper, told_winners
 from anylead.plans import Lead, Standing, Straight, Watch, plan, played
 from anylead.players import answer, course
 from anylead.plays import Play
 from anylead.rounds import Rounds, all_counts
 from anylead.tables import flipped, ranks_of
 from anylead.winners import Winners, winners, winners_at
-from helpers import (FAR, NO_INTEGERS, NO_ROWS, error_of, goal_plainly, open_plainly, raises, rings_book, rng, some_book, some_player,
-                     some_small_books, taking_book, walk_plainly)
+from helpers import (FAR, NO_INTEGERS, NO_ROWS, deep_book, error_of, goal_plainly, late_books, open_plainly, raises,
+                     rings_book, rng, some_book, some_player, some_small_books, taking_book, walk_plainly)
 from paperhelpers import changed, numbers_for, other_forms, told_at, under
 from test_papers import ALONE, EXCURSION, NO_GOALS, TOO_GREAT, VALUES
 
@@ -26,6 +26,16 @@ NO_INDICES = NO_INTEGERS + (-1, 99, FAR)
 
 def books(seed, many):
     return list(ALONE) + [book for book, _ in some_small_books(seed, many, 12, 4)]
+
+
+def thinned(book, told):
+    """A right Paper without the Ranks that it can do without."""
+    for name in ("above_ranks", "below_ranks"):
+        for each in getattr(told, name):
+            less = changed(told, **{name: [other for other in getattr(told, name) if other is not each]})
+            if is_paper(book, less):
+                told = less
+    return told
 
 
 def has_ended(book, place, n):
@@ -185,6 +195,45 @@ class Leads(unittest.TestCase):
         self.assertGreater(sizes[1], 100)
         self.assertGreater(sizes[0], 1000)
 
+    def test_deep_piles(self):
+        chance = rng(555)
+        depths = {}
+        many = 0
+        while many < 250:
+            book = deep_book(chance)
+            found = self.explored(book, Lead(book, paper(book)), paper(book), {})
+            if max(found, default=0) < 2:
+                continue
+            many += 1
+            forms = list(other_forms(book, paper(book)))
+            thin = [thinned(book, forms[at]) for at in (0, 3)]
+            for told in forms[1:5:chance.choice([1, 3])] + thin:
+                self.explored(book, Lead(book, told), told, depths)
+        self.assertGreater(min(depths.get(depth, 0) for depth in (0, 1, 2, 3)), 30, depths)
+
+    def explored(self, book, lead, told, depths):
+        """Looks at all standings that good moves lead to from near states, up to some number."""
+        board, wins = board_of(book), [winners_at(book, place) for place in range(book.places)]
+        todo = [lead.begin(place, n) for place in range(book.places) for n in (1, 2, 4, -1, -2, -5) if n in wins[place]]
+        todo += [lead.begin(place, n) for place in range(book.places) for n in (FAR, -FAR) if n in wins[place]]
+        seen = {}
+        while todo and len(seen) < 150:
+            standing = todo.pop(0)
+            if parts(standing) in seen:
+                continue
+            seen[parts(standing)] = True
+            depths[len(standing.pile)] = depths.get(len(standing.pile), 0) + 1
+            left, good = lead.left(standing), good_plainly(book, board, told, standing)
+            for index in open_plainly(book, standing.place, standing.n):
+                if index not in good:
+                    raises(self, NoMove(index), lead.told, standing, index)
+                    continue
+                behind = lead.told(standing, index)
+                self.assertEqual(parts(behind), good[index])
+                self.assertLess(lead.left(behind), left)
+                todo.append(behind)
+        return depths
+
     def test_whole_plays_against_all_moves(self):
         for book, told, lead in self.leads(554, 15):
             longest = longest_of(book, lead)
@@ -331,7 +380,7 @@ class StraightOut(unittest.TestCase):
         chance = rng(571)
         gains = set()
         checked = 0
-        for book in books(572, 40) + [rings_book(), taking_book((1, 2, 3))]:
+        for book in books(572, 40) + [rings_book(), taking_book((1, 2, 3))] + late_books(573, 60):
             told = paper(book)
             forms = list(other_forms(book, told)) if book.places < 6 else [told]
             for right in forms:
@@ -361,6 +410,7 @@ class StraightOut(unittest.TestCase):
         for book, place in ((NO_GOALS, 0), (EXCURSION, 0), (EXCURSION, 1), (rings_book(), 7), (taking_book((1, 2)), 0)):
             lead = plan(book, 0)
             one = lead.straight(place)
+            self.assertTrue(one.low <= one.high)
             for n in range(one.high + 1, one.high + 40):
                 self.goes_on(lead, book, place, n, one.up_step, one.up_gain)
             for n in range(one.low - 40, one.low):
@@ -440,7 +490,7 @@ class Played(unittest.TestCase):
 class PlayersOfWatches(unittest.TestCase):
     def test_rows(self):
         many = 0
-        for book in books(591, 40) + [rings_book(), taking_book((1, 3, 4))]:
+        for book in books(591, 40) + [rings_book(), taking_book((1, 3, 4))] + late_books(594, 60):
             for sets in [winners(book)] + list(greater_winners(book)):
                 watch = Watch(book, sets)
                 rows = watch.player()

@@ -272,6 +272,13 @@ def late_books(seed, many):
     return found
 
 
+def late_ring_book():
+    """A ring of three and a way that comes to its end, downwards, and SECOND above both: from the third level on by three levels."""
+    rows = [(0, 1), (1, 2), (2, 0), (3, 4), (4, 5), (6, 0), (6, 3), (6, 1)]
+    moves = [Move(place, (), -1, target) for place, target in rows]
+    return Book((0, 0, 0, 0, 0, 0, 1), moves, [Goal(place, (("is", 0),)) for place in (0, 5)])
+
+
 def taking_book(takes):
     """Both sides take in turn one of some numbers from the count; who can't has lost."""
     return Book((0, 1), [Move(side, (("least", many),), -many, 1 - side) for side in (0, 1) for many in takes], ())

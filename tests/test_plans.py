@@ -5,7 +5,7 @@ import time
 import unittest
 
 from anylead.boards import board_of
-from anylead.books import Book, Goal, Move
+from anylead.books import Book, Goal, Move, mirrored
 from anylead.errors import BadNumber, BadPlace, BadRow, NoMove, TooMany, Unlike
 from anylead.papers import Ranks, is_outside, is_paper, paper, told_winners
 from anylead.plans import Lead, Standing, Straight, Watch, plan, played
@@ -14,7 +14,7 @@ from anylead.plays import Play
 from anylead.rounds import Rounds, all_counts
 from anylead.tables import flipped, ranks_of
 from anylead.winners import Winners, winners, winners_at
-from helpers import (FAR, NO_INTEGERS, NO_ROWS, deep_book, error_of, goal_plainly, late_books, open_plainly, raises,
+from helpers import (FAR, NO_INTEGERS, NO_ROWS, deep_book, error_of, goal_plainly, late_books, late_ring_book, open_plainly, raises,
                      rings_book, rng, some_book, some_player, some_small_books, taking_book, walk_plainly)
 from paperhelpers import changed, numbers_for, other_forms, told_at, under
 from test_papers import ALONE, EXCURSION, NO_GOALS, TOO_GREAT, VALUES
@@ -380,7 +380,7 @@ class StraightOut(unittest.TestCase):
         chance = rng(571)
         gains = set()
         checked = 0
-        for book in books(572, 40) + [rings_book(), taking_book((1, 2, 3))] + late_books(573, 60):
+        for book in books(572, 40) + [rings_book(), late_ring_book(), mirrored(late_ring_book())] + late_books(573, 60):
             told = paper(book)
             forms = list(other_forms(book, told)) if book.places < 6 else [told]
             for right in forms:
@@ -490,7 +490,7 @@ class Played(unittest.TestCase):
 class PlayersOfWatches(unittest.TestCase):
     def test_rows(self):
         many = 0
-        for book in books(591, 40) + [rings_book(), taking_book((1, 3, 4))] + late_books(594, 60):
+        for book in books(591, 40) + [rings_book(), taking_book((1, 3, 4)), late_ring_book(), mirrored(late_ring_book())] + late_books(594, 60):
             for sets in [winners(book)] + list(greater_winners(book)):
                 watch = Watch(book, sets)
                 rows = watch.player()

@@ -12,7 +12,7 @@ from anylead.questions import (Lasting, apart, behind, changed, good_at, handica
 from anylead.rounds import Rounds, all_counts, at_least, at_most, every, just, none
 from anylead.roundsums import shifts
 from anylead.winners import winners_at
-from helpers import (FAR, NO_INTEGERS, goal_plainly, holds_plainly, late_books, open_plainly, raises, rings_book, rng, some_book, some_small_books,
+from helpers import (FAR, NO_INTEGERS, goal_plainly, holds_plainly, late_books, late_ring_book, open_plainly, raises, rings_book, rng, some_book, some_small_books,
                      taking_book)
 from test_papers import EXCURSION, TOO_GREAT
 
@@ -23,7 +23,7 @@ ENDLESS = (0, 1, Book((0, 0), (Move(0, (("rest", 7, 0),), 1, 0),), (Goal(1, (("r
 
 
 def books(seed, many):
-    return [DOUBLED, EXCURSION, taking_book((1, 2))] + late_books(seed, many // 4) + [book for book, _ in some_small_books(seed, many, 14, 5)]
+    return [DOUBLED, EXCURSION, taking_book((1, 2)), late_ring_book(), mirrored(late_ring_book())] + late_books(seed, many // 4) + [book for book, _ in some_small_books(seed, many, 14, 5)]
 
 
 def wins_of(book):
